@@ -1,0 +1,1 @@
+"""Hushweb: said without anybody knowing who."""

@@ -1,0 +1,31 @@
+"""What integers, names and numbers are, asked of any objects."""
+
+LETTERS = "abcdefghijklmnopqrstuvwxyz"
+LONGEST_NAME = 8
+
+
+def is_integer(thing, least, most):
+    """Return whether an object is an integer from least to most."""
+    return isinstance(thing, int) and not isinstance(thing, bool) and least <= thing <= most
+
+
+def is_name(thing):
+    """Return whether an object is a name."""
+    if not isinstance(thing, str) or not 1 <= len(thing) <= LONGEST_NAME:
+        return False
+    return all([letter in LETTERS for letter in thing])
+
+
+def are_names(thing, most):
+    """Return whether an object is a list of one to so many different names."""
+    if not isinstance(thing, list) or not 1 <= len(thing) <= most:
+        return False
+    # Only names may go into the set: not every object can be a member of one.
+    return all([is_name(name) for name in thing]) and len(set(thing)) == len(thing)
+
+
+def gives_numbers(thing, told, modulus):
+    """Return whether an object is a dict from all that is told, and nothing else, to numbers below a modulus."""
+    if not isinstance(thing, dict) or len(thing) != len(told):
+        return False
+    return all([place in thing and is_integer(thing[place], 0, modulus - 1) for place in told])

@@ -1,0 +1,49 @@
+"""The interface: the names, the arguments, and the files in which they are defined."""
+
+import importlib
+import inspect
+import unittest
+
+FUNCTIONS = {
+    "hushweb.webs": {"tied": "web one other", "ties_of": "web person", "pieces": "web band"},
+    "hushweb.talks": {"are_coins": "web thing", "are_numbers": "web thing", "say": "web coins messages",
+                      "heard": "web sayings"},
+}
+CLASSES = {("hushweb.webs", "Web"): ("self people ties modulus", ["__init__", "__eq__"], ["people", "ties", "modulus"])}
+
+
+def told(call):
+    """The names of the parameters; all of them may be passed by position and by name, and none has a default."""
+    parameters = inspect.signature(call).parameters.values()
+    assert all(one.kind is one.POSITIONAL_OR_KEYWORD and one.default is one.empty for one in parameters)
+    return " ".join(one.name for one in parameters)
+
+
+class Interface(unittest.TestCase):
+    def test_functions(self):
+        for place, functions in FUNCTIONS.items():
+            module = importlib.import_module(place)
+            for name, parameters in functions.items():
+                call = vars(module)[name]
+                self.assertTrue(inspect.isfunction(call), name)
+                self.assertEqual((call.__module__, call.__name__), (place, name))
+                self.assertEqual(told(call), parameters, name)
+
+    def test_classes(self):
+        for (place, name), (parameters, methods, properties) in CLASSES.items():
+            module = importlib.import_module(place)
+            kind = vars(module)[name]
+            self.assertEqual((kind.__module__, kind.__name__), (place, name))
+            self.assertEqual(told(vars(kind)["__init__"]), parameters)
+            for method in methods:
+                self.assertTrue(inspect.isfunction(vars(kind)[method]), method)
+            for one in properties:
+                self.assertIsInstance(vars(kind)[one], property)
+
+    def test_parse_error(self):
+        module = importlib.import_module("hushweb.errors")
+        self.assertEqual(told(vars(module.ParseError)["__init__"]), "self line")
+
+
+if __name__ == "__main__":
+    unittest.main()
