@@ -1,5 +1,7 @@
 """What integers, names and numbers are, asked of any objects."""
 
+from hushweb.errors import InvalidNumber
+
 LETTERS = "abcdefghijklmnopqrstuvwxyz"
 LONGEST_NAME = 8
 
@@ -29,3 +31,9 @@ def gives_numbers(thing, told, modulus):
     if not isinstance(thing, dict) or len(thing) != len(told):
         return False
     return all([place in thing and is_integer(thing[place], 0, modulus - 1) for place in told])
+
+
+def check_number(thing, least, most):
+    """Raise InvalidNumber unless an object is an integer from least to most."""
+    if not is_integer(thing, least, most):
+        raise InvalidNumber(f"this is no integer from {least} to {most}")

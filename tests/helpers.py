@@ -1,10 +1,13 @@
 """What several tests need: objects of all kinds, right and spoilt values, and the webs they are tried with."""
 
+import inspect
 import itertools
 import random
 
 from hushweb.errors import HushError, InvalidWeb, ParseError
+from hushweb.views import view
 from hushweb.webs import Web
+from tests import plain
 
 NAMES = ["ann", "bob", "cy", "dee", "eve", "f", "gregoryx", "zz"]
 
@@ -41,6 +44,35 @@ def random_webs(seed, many):
         ties = [tie for tie in all_ties(people) if rng.random() < chance]
         rng.shuffle(ties)
         yield people, ties, rng.choice([2, 3, 5, 10, 99, 100])
+
+
+def random_talks(seed, many):
+    """Webs of one to eight people with coins and messages."""
+    rng = random.Random(seed)
+    for people, ties, modulus in random_webs(seed, many):
+        coins = random_numbers(rng, ties, modulus)
+        yield Web(people, ties, modulus), coins, random_numbers(rng, people, modulus)
+
+
+def random_views(seed, many):
+    """Webs of one to eight people with views of bands in any order, also of nobody and of all."""
+    rng = random.Random(seed)
+    for web, coins, messages in random_talks(seed, many):
+        size = rng.choice([0, 0, 1, 1, 2, 3, len(web.people)])
+        yield web, view(web, rng.sample(web.people, min(size, len(web.people))), coins, messages)
+
+
+def small_views(seed):
+    """Webs so small that all deals of coins can be gone through, with views of all bands."""
+    rng = random.Random(seed)
+    kinds = [(1, 0, 5), (1, 0, 100), (2, 0, 3), (2, 1, 5), (2, 1, 100), (3, 1, 5), (3, 2, 3), (3, 3, 2), (3, 3, 5),
+             (4, 2, 3), (4, 3, 3), (4, 4, 3), (4, 5, 2), (4, 6, 2), (5, 4, 2), (5, 6, 2)]
+    for many, size, modulus in kinds:
+        people = rng.sample(NAMES, many)
+        web = Web(people, rng.sample(all_ties(people), size), modulus)
+        for band in bands(people):
+            coins, messages = random_numbers(rng, web.ties, modulus), random_numbers(rng, people, modulus)
+            yield web, view(web, rng.sample(band, len(band)), coins, messages)
 
 
 def random_numbers(rng, keys, modulus):
@@ -176,3 +208,54 @@ def no_bands(web):
             {person: True for person in people}, {person: 0 for person in people}, " ".join(people), people[0],
             [people], [tuple(people)], [people[0].upper()], [people[0] + " "], ["zoe"]]
     return [thing for thing in junk() + more if not is_band(web, thing)]
+
+
+def no_numbers(right, modulus):
+    """Objects that are no dict from the keys of the right one to numbers."""
+    return [thing for thing in junk() + spoilt_dicts(right, modulus)
+            if not plain.gives_numbers(thing, list(right), modulus)]
+
+
+def near_views(web, seen):
+    """Objects that are nearly a view, some of which are one."""
+    band, own, coins, sayings = seen
+    out = [list(seen), seen[:3], seen + (None,), seen + seen, seen[::-1], (seen,), [seen], {"view": seen}, ()]
+    out += [(band, own, sayings), (band, own, coins, sayings, sayings), (own, coins, sayings), (own, band, coins, sayings)]
+    out.append((band, coins, own, sayings))
+    out += [(thing, own, coins, sayings) for thing in no_bands(web)]
+    out += [(thing, own, coins, sayings) for thing in bands(web.people)]
+    out += [(band[::-1], own, coins, sayings), (tuple(band), own, coins, sayings), (band * 2, own, coins, sayings)]
+    for at, part in [(1, own), (2, coins), (3, sayings)]:
+        for thing in junk() + spoilt_dicts(part, web.modulus) + [dict(reversed(part.items()))]:
+            out.append(seen[:at] + (thing,) + seen[at + 1:])
+        for key in part:
+            turned = {**part, key: (part[key] + 1) % web.modulus}
+            out.append(seen[:at] + (turned,) + seen[at + 1:])
+    for person in band:
+        more = {**own, person: (own[person] + 1) % web.modulus}
+        said = {**sayings, person: (sayings[person] + 1) % web.modulus}
+        out += [(band, more, coins, said), (band, more, coins, {**said, person: sayings[person]})]
+    return out
+
+
+def no_views(web, seen):
+    """Objects that are no view of a web: of all kinds, and such as are nearly one."""
+    return [thing for thing in junk() + near_views(web, seen) if not plain.is_view(web, thing)]
+
+
+def answer(case, call, *arguments):
+    """What a call returns, told by position and by name; the arguments stay, and what is returned is new."""
+    names = list(inspect.signature(call).parameters)
+    before = frozen(list(arguments))
+    found, again = call(*arguments), call(**dict(zip(names, arguments)))
+    told = frozen(found)
+    case.assertEqual(frozen(again), told)
+    case.assertEqual(frozen(list(arguments)), before)
+    case.assertTrue(all_new(found, again))
+    handed = [id(part) for part in containers(list(arguments))]
+    case.assertEqual([part for part in containers([found, again])[1:] if id(part) in handed], [])
+    for part in containers(again):
+        part.clear()
+    case.assertEqual((frozen(found), frozen(list(arguments))), (told, before))
+    case.assertEqual(frozen(call(*arguments)), told)
+    return found

@@ -9,7 +9,7 @@ class Examples(unittest.TestCase):
     def test_examples_of_the_document(self):
         result = doctest.testfile("examples.txt")
         self.assertEqual(result.failed, 0)
-        self.assertGreaterEqual(result.attempted, 8)
+        self.assertGreaterEqual(result.attempted, 41)
 
     def test_example_of_the_readme(self):
         text = (Path(__file__).parent.parent / "README.md").read_text()
@@ -20,14 +20,14 @@ class Examples(unittest.TestCase):
             code, _, told = row.partition("#")
             code, told = code.strip(), told.strip()
             if told and "=" not in code:
-                self.assertEqual(eval(code, known), eval(told), row)
+                self.assertEqual(eval(code, known), eval(told, known), row)
                 tried += 1
             elif code:
                 exec(code, known)
                 if told:
-                    self.assertEqual(known[code.split(" ")[0]], eval(told), row)
+                    self.assertEqual(known[code.split(" ")[0]], eval(told, known), row)
                     tried += 1
-        self.assertEqual(tried, 6)
+        self.assertEqual(tried, 32)
 
 
 if __name__ == "__main__":

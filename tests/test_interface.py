@@ -8,6 +8,18 @@ FUNCTIONS = {
     "hushweb.webs": {"tied": "web one other", "ties_of": "web person", "pieces": "web band"},
     "hushweb.talks": {"are_coins": "web thing", "are_numbers": "web thing", "say": "web coins messages",
                       "heard": "web sayings"},
+    "hushweb.views": {"view": "web band coins messages", "is_view": "web thing", "joined": "web one other"},
+    "hushweb.known": {"sums": "web view", "may": "web view messages", "deals": "web view messages",
+                      "bearing": "web view messages", "bears": "web view messages thing", "rows": "web view"},
+    "hushweb.lone": {"lone": "web view", "parts": "web band one other"},
+    "hushweb.roads": {"roads": "web one other", "least_band": "web one other", "are_roads": "web one other thing"},
+    "hushweb.strength": {"strength": "web", "weakest": "web", "fewest_ties": "many size",
+                         "strong_web": "people size modulus"},
+    "hushweb.votes": {"yeses": "web view", "vote_rows": "web view", "sure": "web view"},
+    "hushweb.again": {"changes": "web view series", "may_again": "web view series lists",
+                      "rows_again": "web view series", "speakers_again": "web view series"},
+    "hushweb.turns": {"is_timetable": "thing", "unheard": "timetable many", "fewest_turns": "many",
+                      "timetable": "people"},
 }
 CLASSES = {("hushweb.webs", "Web"): ("self people ties modulus", ["__init__", "__eq__"], ["people", "ties", "modulus"])}
 

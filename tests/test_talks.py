@@ -1,41 +1,12 @@
 """Talks: promises 4 and 9, and 2 as far as it is about them."""
 
-import random
 import unittest
 
 from hushweb.errors import InvalidCoins, InvalidMessages, InvalidSayings, InvalidWeb
 from hushweb.talks import are_coins, are_numbers, heard, say
 from hushweb.webs import Web
-from tests import helpers
-
-
-def random_talks(seed, many):
-    rng = random.Random(seed)
-    for people, ties, modulus in helpers.random_webs(seed, many):
-        coins = helpers.random_numbers(rng, ties, modulus)
-        yield Web(people, ties, modulus), coins, helpers.random_numbers(rng, people, modulus)
-
-
-def plain_say(web, coins, messages):
-    """The sayings as the document tells them: each coin handed to the one end, and taken from the other one."""
-    said = dict(messages)
-    for (one, other), coin in coins.items():
-        said[one] += coin
-        said[other] -= coin
-    return {person: said[person] % web.modulus for person in said}
-
-
-def gives_numbers(thing, told, modulus):
-    """Whether an object is a dict from all that is told to numbers."""
-    if type(thing) is not dict or helpers.frozen(sorted(thing, key=repr)) != helpers.frozen(sorted(told, key=repr)):
-        return False
-    return all(type(number) is int and number in range(modulus) for number in thing.values())
-
-
-def no_numbers(right, modulus):
-    """Objects that are no dict from the keys of the right one to numbers."""
-    things = helpers.junk() + helpers.spoilt_dicts(right, modulus)
-    return [thing for thing in things if not gives_numbers(thing, list(right), modulus)]
+from tests import helpers, plain
+from tests.helpers import no_numbers, random_talks
 
 
 class Kinds(unittest.TestCase):
@@ -101,7 +72,7 @@ class Sayings(unittest.TestCase):
             before = helpers.frozen([coins, messages])
             sayings = say(web, coins, messages)
             self.assertEqual(helpers.frozen([coins, messages]), before)
-            self.assertEqual(sayings, plain_say(web, coins, messages))
+            self.assertEqual(sayings, plain.say(web, coins, messages))
             self.assertTrue(all(type(number) is int for number in sayings.values()))
             self.assertIs(are_numbers(web, sayings), True)
             total = heard(web, sayings)

@@ -6,19 +6,7 @@ import unittest
 
 from hushweb.errors import InvalidBand, InvalidModulus, InvalidPeople, InvalidTies, InvalidWeb, UnknownPerson
 from hushweb.webs import Web, pieces, tied, ties_of
-from tests import helpers
-
-
-def plain_pieces(people, ties, band):
-    """The pieces as the document tells them: from whom one gets to whom, step by step."""
-    outside = sorted(person for person in people if person not in band)
-    gets = {(one, other) for one in outside for other in outside
-            if one == other or (one, other) in ties or (other, one) in ties}
-    for between, one, other in itertools.product(outside, repeat=3):
-        if (one, between) in gets and (between, other) in gets:
-            gets.add((one, other))
-    found = {tuple(other for other in outside if (one, other) in gets) for one in outside}
-    return [list(piece) for piece in sorted(found)]
+from tests import helpers, plain
 
 
 class Webs(unittest.TestCase):
@@ -182,7 +170,7 @@ class Pieces(unittest.TestCase):
         web = Web(people, ties, 3)
         before = list(band)
         found = pieces(web, band)
-        self.assertEqual(helpers.frozen(found), helpers.frozen(plain_pieces(people, ties, band)), (people, ties, band))
+        self.assertEqual(helpers.frozen(found), helpers.frozen(plain.pieces(people, ties, band)), (people, ties, band))
         self.assertTrue(helpers.all_new(found, band, pieces(web, band)))
         self.assertEqual(band, before)
 
