@@ -3,7 +3,7 @@
 from hushweb.talks import are_coins, check_messages, say, share
 from hushweb.views import agree, check_view
 from hushweb.ways import find_way
-from hushweb.webs import check_web, pieces, ties_of
+from hushweb.webs import check_web, pieces
 
 
 def sums(web, view):
@@ -46,16 +46,29 @@ def bearing(web, view, messages):
     """Return any coins that bear messages in a view, or None if they are not possible."""
     if not may(web, view, messages):
         return None
-    band, _, seen, sayings = view
-    coins = {tie: seen.get(tie, 0) for tie in web.ties}
-    links = {person: [other for other in ties_of(web, person) if other not in band]
-             for person in web.people if person not in band}
-    for piece in pieces(web, band):
+    coins = {tie: view[2].get(tie, 0) for tie in web.ties}
+    settle(web, view, messages, coins, web.ties)
+    return coins
+
+
+def settle(web, view, messages, coins, ties):
+    """Change coins of ties by which each piece hangs together so that they bear possible messages in a view."""
+    links = links_by(ties)
+    for piece in pieces(web, view[0]):
+        inside = {person: [other for other in links.get(person, []) if other in piece] for person in piece}
         # The first one of a piece takes what the others lack: what is left there comes out by the piece's sum.
         for person in piece[1:]:
-            lacking = sayings[person] - messages[person] - share(coins, person)
-            send(coins, find_way(links, person, piece[0]), lacking, web.modulus)
-    return coins
+            lacking = view[3][person] - messages[person] - share(coins, person)
+            send(coins, find_way(inside, person, piece[0]), lacking, web.modulus)
+
+
+def links_by(ties):
+    """Return a dict from all who stand in ties to the list of those to whom they are tied by these."""
+    links = {}
+    for one, other in ties:
+        links.setdefault(one, []).append(other)
+        links.setdefault(other, []).append(one)
+    return links
 
 
 def send(coins, way, number, modulus):

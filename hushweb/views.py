@@ -3,12 +3,12 @@
 from hushweb.errors import InvalidView, Mismatch
 from hushweb.kinds import gives_numbers
 from hushweb.talks import are_numbers, check_coins, check_messages, say, share
-from hushweb.webs import check_band, check_web, is_band
+from hushweb.webs import check_band, check_web, is_band, is_open
 
 
 def open_ties(web, band):
     """Return the ascending list of the ties that are open to a band."""
-    return [tie for tie in web.ties if tie[0] in band or tie[1] in band]
+    return [tie for tie in web.ties if is_open(tie, band)]
 
 
 def view(web, band, coins, messages):

@@ -93,6 +93,11 @@ def check_band(web, band):
         raise InvalidBand("a band is a list of different people of the web")
 
 
+def is_open(tie, band):
+    """Return whether one of the two people of a tie is in a band."""
+    return tie[0] in band or tie[1] in band
+
+
 def tied(web, one, other):
     """Return whether two people are tied, in whichever order they are told."""
     check_web(web)

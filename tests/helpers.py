@@ -5,6 +5,8 @@ import itertools
 import random
 
 from hushweb.errors import HushError, InvalidWeb, ParseError
+from hushweb.room import Room
+from hushweb.shell import Shell
 from hushweb.views import view
 from hushweb.webs import Web
 from tests import plain
@@ -23,6 +25,31 @@ def example_coins():
 
 def example_messages():
     return {"ann": 0, "bob": 7, "cy": 0, "dee": 0, "eve": 0}
+
+
+def example_room():
+    """A room of three talks: of coins that serve one, two and three of them, and of people who come and go."""
+    room = Room(10)
+    for name in ["cy", "ann", "bob"]:
+        room.join(name)
+    room.tie("bob", "ann", 3)
+    room.tie("bob", "cy", 9)
+    room.talk({"bob": 7})
+    room.tie("ann", "cy", 4)
+    room.tie("bob", "cy", 9)
+    room.talk({})
+    room.leave("cy")
+    room.join("dee")
+    room.tie("dee", "ann", 1)
+    room.talk({"ann": 1, "bob": 0, "dee": 9})
+    return room
+
+
+def example_shell():
+    shell = Shell()
+    for line in ["web w ann_bob_cy/ann-bob_bob-cy/10", "coins w ann-bob=3_bob-cy=9", "talk w ann=0_bob=7_cy=0"]:
+        shell.run(line)
+    return shell
 
 
 def all_ties(people):
@@ -91,7 +118,7 @@ def nested(kind, depth):
 
 def junk():
     """New objects of all kinds; some of them are right in some places."""
-    web = example_web()
+    web, room = example_web(), example_room()
     return [
         None, True, False, 0, 1, 2, 7, -1, 100, 101, 10 ** 39, -(10 ** 39),
         "", "ann", "zoe", "Ann", "abcdefgh", "abcdefghi", "a b", "a\tb\n", "[]", "0", "~ !",
@@ -106,6 +133,7 @@ def junk():
         nested("list", 30), nested("tuple", 30), nested("dict", 30),
         web, [web], (web,), {"ann": web}, (web, web), [web, "ann"], Web(["a"], [], 2),
         HushError("no"), InvalidWeb("no"), ParseError(1), [HushError("no")],
+        room, [room], (room, web), {"ann": room}, Room(2), example_shell(), [Shell()], room.talks, room.seen(1, ["bob"]),
     ]
 
 
@@ -138,6 +166,10 @@ def frozen(thing):
         return ("Web", frozen(thing.people), frozen(thing.ties), thing.modulus)
     if isinstance(thing, HushError):
         return (type(thing).__name__, str(thing))
+    if isinstance(thing, Room):
+        return ("Room", frozen(thing.people), frozen(thing.coins), frozen(thing.talks), len(thing))
+    if isinstance(thing, Shell):
+        return ("Shell", thing.run("webs"))
     return (type(thing).__name__, thing)
 
 

@@ -1,5 +1,6 @@
 """The examples of the document and of the README."""
 
+import ast
 import doctest
 import unittest
 from pathlib import Path
@@ -9,7 +10,7 @@ class Examples(unittest.TestCase):
     def test_examples_of_the_document(self):
         result = doctest.testfile("examples.txt")
         self.assertEqual(result.failed, 0)
-        self.assertGreaterEqual(result.attempted, 41)
+        self.assertEqual(result.attempted, 85)
 
     def test_example_of_the_readme(self):
         text = (Path(__file__).parent.parent / "README.md").read_text()
@@ -19,7 +20,7 @@ class Examples(unittest.TestCase):
         for row in rows:
             code, _, told = row.partition("#")
             code, told = code.strip(), told.strip()
-            if told and "=" not in code:
+            if told and isinstance(ast.parse(code).body[0], ast.Expr):
                 self.assertEqual(eval(code, known), eval(told, known), row)
                 tried += 1
             elif code:
@@ -27,7 +28,7 @@ class Examples(unittest.TestCase):
                 if told:
                     self.assertEqual(known[code.split(" ")[0]], eval(told, known), row)
                     tried += 1
-        self.assertEqual(tried, 32)
+        self.assertEqual(tried, 64)
 
 
 if __name__ == "__main__":

@@ -20,8 +20,26 @@ FUNCTIONS = {
                       "rows_again": "web view series", "speakers_again": "web view series"},
     "hushweb.turns": {"is_timetable": "thing", "unheard": "timetable many", "fewest_turns": "many",
                       "timetable": "people"},
+    "hushweb.openings": {"is_opening": "web thing", "torn": "web opening", "unfit": "web opening sayings",
+                         "fewest_liars": "web opening sayings", "are_liars": "web opening sayings thing",
+                         "in_fewest": "web opening sayings"},
+    "hushweb.texts": {"format_web": "web", "format_numbers": "web numbers", "format_coins": "web coins",
+                      "parse_web": "text", "parse_numbers": "web text", "parse_coins": "web text"},
+    "hushweb.histories": {"served": "room", "may_all": "room band lists", "deals_all": "room band lists",
+                          "deal_of": "room band lists", "against": "room band lists",
+                          "bears_all": "room band lists thing", "speaks_against": "room band lists thing"},
+    "hushweb.freecoins": {"free_ties": "web band", "is_free": "web band thing", "bearing_with": "web view messages chosen"},
+    "hushweb.pools": {"pooled": "web one other", "opened": "web view shown"},
+    "hushweb.cases": {"case_tree": "web opening sayings size", "is_case_tree": "web opening sayings size thing"},
 }
-CLASSES = {("hushweb.webs", "Web"): ("self people ties modulus", ["__init__", "__eq__"], ["people", "ties", "modulus"])}
+CLASSES = {
+    ("hushweb.webs", "Web"): ("self people ties modulus", {"__eq__": "self other"}, ["people", "ties", "modulus"]),
+    ("hushweb.room", "Room"): ("self modulus", {"join": "self name", "leave": "self name", "tie": "self one other coin",
+                                                "untie": "self one other", "talk": "self messages", "web": "self",
+                                                "known": "self band weights", "seen": "self index band", "copy": "self",
+                                                "__len__": "self"}, ["people", "coins", "talks"]),
+    ("hushweb.shell", "Shell"): ("self", {"run": "self line"}, []),
+}
 
 
 def told(call):
@@ -47,10 +65,15 @@ class Interface(unittest.TestCase):
             kind = vars(module)[name]
             self.assertEqual((kind.__module__, kind.__name__), (place, name))
             self.assertEqual(told(vars(kind)["__init__"]), parameters)
-            for method in methods:
+            for method, arguments in methods.items():
                 self.assertTrue(inspect.isfunction(vars(kind)[method]), method)
+                self.assertEqual(told(vars(kind)[method]), arguments, method)
             for one in properties:
                 self.assertIsInstance(vars(kind)[one], property)
+
+    def test_steps_are_told_by_name_alone(self):
+        undo = vars(importlib.import_module("hushweb.room").Room)["undo"]
+        self.assertEqual(str(inspect.signature(undo)), "(self, *, steps=1)")
 
     def test_parse_error(self):
         module = importlib.import_module("hushweb.errors")
